@@ -1,0 +1,1 @@
+"""Wakedenough: machines kept awake just long enough, and why nobody does better."""
