@@ -1,6 +1,7 @@
 """Plain, slow ways to find what the program tells: what the tests hold it against."""
 
 import itertools
+import random
 import re
 
 LEXEME = re.compile(r"(?P<word>[a-z][a-z0-9]*)|(?P<numeral>0|[1-9][0-9]*)|(?P<sign>->|[{}\[\];:,-])")
@@ -87,6 +88,12 @@ def first_wrong_place(text, form):
 
 # Slots and rows.
 
+# The slots of the player of slots, and slots far from each other.
+EARNS = (0, 1, 1, (-1,))
+COSTS = (0, 1, 0, (1,))
+FAR_SLOTS = ((10 ** 6, 10 ** 6 + 1, 5, (10 ** 12,)), (0, 1, 10 ** 12, (-10 ** 12,)), (10 ** 5, 10 ** 5 + 2, 9, (-4, -4)), (7, 7, 0, ()))
+
+
 def cost_of(slot, x):
     """The cost of a slot, or the worth of a work, at one of its numbers."""
     cost = slot[2]
@@ -135,6 +142,26 @@ def random_slot(source, high, most_wide, greatest):
     return (need, most, source.randrange(greatest + 1) - lowest, tuple(slopes))
 
 
+def random_slot_rows(seed, many, greatest):
+    """So many rows of 1 to 5 small slots."""
+    source = random.Random(seed)
+    for k in range(many):
+        yield tuple(random_slot(source, 4, 3, greatest) for _ in range(1 + k % 5))
+
+
+def pairs_of_small_slots():
+    """Rows of two small slots, with slopes of all sorts."""
+    slots = convex_slots(2, (0, 1, 4), (-3, 0, 1, 5))
+    return itertools.product(slots[::2], slots[::3])
+
+
+def great_slots():
+    """Slots as many, as wide, as far away and with as great costs as may be."""
+    lows = [10 ** 6 - 200 - 150 * (t % 3 == 1) for t in range(300)]
+    begins = [-100 * (t % 2) for t in range(300)]
+    return tuple((low, low + 200, 10 ** 12, tuple(range(begin, begin + 200))) for low, begin in zip(lows, begins))
+
+
 # Needs.
 
 def plain_valleys(needs):
@@ -174,3 +201,120 @@ def small_need_rows(ticks, high):
     """All need rows of at most so many ticks with needs to high."""
     for many in range(ticks + 1):
         yield from itertools.product(range(high + 1), repeat=many)
+
+
+# What may be anything.
+
+ANYTHING = [None, True, False, 0, 1, -1, 10 ** 40, "", "a", "form", (), (1,), (1, 2), (1, 2, 3), ((), ()), ([], []), ((), [], ()),
+            (((),),), ((1,), (1,)), (0, (), ()), [], [1], [(), ()], {}, {"a": 1}, {0: (1, 2)}, (None, None), (True, (), ()), ("", "")]
+
+
+def deep(value, times):
+    """A value within so many tuples."""
+    for _ in range(times):
+        value = (value,)
+    return value
+
+
+ANYTHING += [deep(1, 39), deep([], 30), [[[{"a": [None]}]]]]
+
+
+def changed_at(values, at, value):
+    """A tuple with another member in a place."""
+    return values[:at] + (value,) + values[at + 1:]
+
+
+# Best rows, works and prices, by going over all rows.
+
+def costs_by_end(slots, b):
+    """The dict from each number at which rows that serve may end to the least cost of those."""
+    found = {}
+    for row in rows_of(slots):
+        end = row[-1]
+        found[end] = min(found.get(end, 10 ** 40), plain_cost(slots, b, row))
+    return found
+
+
+def plain_works(slots, b):
+    """For each tick the dict from its numbers to the least cost of the rows that end with them there."""
+    return [costs_by_end(slots[:t + 1], b) for t in range(len(slots))]
+
+
+def plain_low(worths):
+    return min(x for x in worths if worths[x] == min(worths.values()))
+
+
+def plain_high(worths, b):
+    return max([x for x in worths if x - 1 in worths and worths[x] - worths[x - 1] <= b], default=min(worths))
+
+
+def plain_inner_low(worths):
+    return max(x for x in worths if worths[x] == min(worths.values()))
+
+
+def plain_inner_high(worths, b):
+    return min([x for x in worths if x + 1 in worths and worths[x + 1] - worths[x] >= b], default=max(worths))
+
+
+def best_rows(slots, b):
+    """All rows that serve and cost the least, with b 0, too."""
+    rows = list(rows_of(slots))
+    least = min(plain_cost(slots, b, row) for row in rows)
+    return [row for row in rows if plain_cost(slots, b, row) == least]
+
+
+def plain_paper_fault(slots, b, row, prices):
+    """The first fault of a pair of as many integers as there are slots, by the words of S4.4."""
+    ticks = range(len(slots))
+    late = list(prices) + [0]
+    before = [0] + list(row)
+    worth = lambda t, x: cost_of(slots[t], x) + (late[t] - late[t + 1]) * x
+    faults = [("serves", t) for t in ticks if row[t] not in numbers_of(slots[t])]
+    faults += [("price", t) for t in ticks if not 0 <= prices[t] <= b]
+    if not faults:
+        faults += [("least", t) for t in ticks if worth(t, row[t]) > min(worth(t, x) for x in numbers_of(slots[t]))]
+    faults += [("start", t) for t in ticks if row[t] > before[t] and prices[t] != b]
+    faults += [("stop", t) for t in ticks if row[t] < before[t] and prices[t] != 0]
+    return faults[0] if faults else None
+
+
+# Runners.
+
+def plain_sight(looks, b, w):
+    """What the sight runner tells for some looks, by the words of S5.2."""
+    told = []
+    for t, seen in enumerate(looks):
+        around = [looks[u][0] for u in range(max(0, t - (b - 1 - w)), t)] + list(seen[1:])[:w]
+        before = told[-1] if told else 0
+        told.append(max(seen[0], min(before, max(around, default=0))))
+    return tuple(told)
+
+
+def looks_of(row, w):
+    """What is seen of a row, tick by tick."""
+    return [tuple(row[t:t + w + 1]) for t in range(len(row))]
+
+
+class Watched:
+    """A runner that keeps what another one was shown and returned."""
+
+    def __init__(self, runner):
+        self.runner = runner
+        self.looks = []
+        self.told = []
+
+    def look(self, seen):
+        self.looks.append(seen)
+        self.told.append(self.runner.look(seen))
+        return self.told[-1]
+
+
+class Script:
+    """A runner of needs that returns the numbers of a script, but at least the need, and 0 behind its end."""
+
+    def __init__(self, script):
+        self.script = list(script)
+
+    def look(self, seen):
+        told = self.script.pop(0) if self.script else 0
+        return max(told, seen[0])

@@ -172,6 +172,16 @@ class Code(unittest.TestCase):
                 if isinstance(node, ast.Call) and isinstance(node.func, ast.Attribute):
                     self.assertIn(node.func.attr, METHODS | own, name)
 
+    def test_no_name_is_a_method_and_an_attribute(self):
+        attributes = {node.attr for tree in trees().values() for node in ast.walk(tree)
+                      if isinstance(node, ast.Attribute) and isinstance(node.ctx, ast.Store)}
+        self.assertFalse(attributes & (own_methods() - METHODS))
+        for name, tree in trees().items():
+            called = [node.func for node in ast.walk(tree) if isinstance(node, ast.Call)]
+            for node in ast.walk(tree):
+                if isinstance(node, ast.Attribute) and isinstance(node.ctx, ast.Load) and node not in called:
+                    self.assertIn(node.attr, attributes, name)
+
     def test_names(self):
         for name, tree in trees().items():
             outer = {node.name for node in tree.body if isinstance(node, ast.ClassDef)}

@@ -30,3 +30,13 @@ def row_cost(slots, b, row):
     if not serves(slots, row):
         return None
     return running_cost(slots, row) + b * starts(row)
+
+
+def costs_so_far(slots, b, row):
+    """Return the list of what a fleet row that serves has cost up to each tick."""
+    costs = []
+    paid = 0
+    for slot, before, x in zip(slots, [0, *row], row):
+        paid = paid + slot_cost(slot, x) + b * max(0, x - before)
+        costs.append(paid)
+    return costs
