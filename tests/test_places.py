@@ -113,6 +113,15 @@ class Places(unittest.TestCase):
         self.assertEqual(led(K, 2, (1, 1, (0,)), 1), ((1, 1, (0,)), 1, 1))
         self.assertEqual(places(K, 2), [(0, 0, (2,)), (0, 1, (1,)), (1, 1, (0,))])
 
+    def test_what_k_costs(self):
+        place, prices, growths = first_place(K, 2), [], []
+        for need in (1, 0, 0, 1):
+            place, price, growth = led(K, 2, place, need)
+            prices.append(price)
+            growths.append(growth)
+        self.assertEqual([prices, growths], [[3, 1, 0, 3], [3, 0, 0, 3]])
+        self.assertEqual([sum(prices), sum(growths)], [3 + 4, least_by_steps(2, (1, 0, 0, 1))])
+
     def test_first_places(self):
         self.assertEqual(first_place(UNFIT, 5), (0, 0, (5, 5)))
         self.assertEqual(first_place(random_rule(random.Random(84), 6, 3), 1), (0, 0, (1,) * 6))

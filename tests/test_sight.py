@@ -8,6 +8,7 @@ import helper
 from wakedenough.layers import least_by_layers
 from wakedenough.runners import SightRunner, run
 from wakedenough.sight import sight_cost, sight_room, sight_row, tails
+from wakedenough.valleys import valleys
 
 N = (2, 0, 1, 0, 0, 0, 1)
 SIGHTS = [(b, w) for b in range(1, 6) for w in range(b)] + [(50, 0), (50, 20), (50, 49)]
@@ -54,6 +55,7 @@ class Runs(unittest.TestCase):
             self.assertEqual(cost, least)
 
     def test_n(self):
+        self.assertEqual([valleys(N), tails(N)], [[(1, 1, 0, 1), (3, 3, 0, 1)], [(1, 6, 1, 2)]])
         self.assertEqual(sight_row(N, 3, 0), (2, 2, 2, 1, 1, 0, 1))
         self.assertEqual([sight_cost(N, 3, 0), least_by_layers(N, 3), sight_room(N, 3, 0)], [18, 14, 12])
         for b, w in SIGHTS:
