@@ -4,6 +4,9 @@ import itertools
 import random
 import re
 
+from wakedenough.errors import BadAct, BadAsk, BadTree, TooGreat
+from wakedenough.sheets import check_sheet
+
 LEXEME = re.compile(r"(?P<word>[a-z][a-z0-9]*)|(?P<numeral>0|[1-9][0-9]*)|(?P<sign>->|[{}\[\];:,-])")
 
 
@@ -318,3 +321,367 @@ class Script:
     def look(self, seen):
         told = self.script.pop(0) if self.script else 0
         return max(told, seen[0])
+
+
+# Rules, menus, and the places through which they lead.
+
+K = (1, (((0, 0), (1, 1)), ((1, 0), (1, 1))))
+
+
+def random_rule(source, most, states):
+    return (most, tuple(tuple((source.randrange(most + 1), source.randrange(states)) for _ in range(most + 1))
+                        for _ in range(states)))
+
+
+def fit_rule(source, most, states, stops=0.7):
+    """A rule that serves all need rows, and mostly has no machine on where none is needed."""
+    found = []
+    for _ in range(states):
+        pairs = [(source.randrange(need, most + 1), source.randrange(states)) for need in range(most + 1)]
+        if source.random() < stops:
+            pairs[0] = (0, pairs[0][1])
+        found.append(tuple(pairs))
+    return (most, tuple(found))
+
+
+def rule_fleet(rule, needs):
+    """The fleet row of a rule."""
+    state, row = 0, []
+    for need in needs:
+        x, state = rule[1][state][need]
+        row.append(x)
+    return row
+
+
+def rising(most, b):
+    """All rows of so many numbers from 0 to b that never fall."""
+    return list(itertools.combinations_with_replacement(range(b + 1), most))
+
+
+def plain_led(rule, b, place, need):
+    """Where a need leads from a place, its price and its growth, by the words of S7.2 and S7.3."""
+    state, on, steps = place
+    x, late = rule[1][state][need]
+    behind = tuple(0 if y < need else min(b, steps[y] + 1) for y in range(rule[0]))
+    return (late, x, behind), x + b * max(0, x - on), need + sum(steps[:need])
+
+
+def come_to(first, ends):
+    """The dict from all places that are come to from a first one to where each leads, ends telling this."""
+    found, new = {}, [first]
+    while new:
+        place = new.pop()
+        if place not in found:
+            found[place] = ends(place)
+            new += found[place]
+    return found
+
+
+def simple_rings(graph):
+    """All rings of a graph that come to no place twice, as tuples of pairs (place, number of the step).
+
+    Each begins with its least place; a graph is a dict from places to lists of places."""
+    order = {place: k for k, place in enumerate(sorted(graph))}
+
+    def further(begin, place, way, seen):
+        for k, end in enumerate(graph[place]):
+            if end == begin:
+                yield way + ((place, k),)
+            elif order[end] > order[begin] and end not in seen:
+                yield from further(begin, end, way + ((place, k),), seen | {end})
+
+    for begin in sorted(graph):
+        yield from further(begin, begin, (), {begin})
+
+
+def simple_ways(graph, first):
+    """All ways from a place that come to no place twice, as tuples of pairs (place, number of the step)."""
+    def further(place, way, seen):
+        yield way
+        for k, end in enumerate(graph[place]):
+            if end not in seen:
+                yield from further(end, way + ((place, k),), seen | {end})
+
+    yield from further(first, (), {first})
+
+
+def plain_turn(menu, b, place, call, x):
+    """The price and the growth of a turn, and where it leads, by the least over all numbers (S8.2, S8.3)."""
+    on, steps = place
+    slot, most = menu[call], menu[0][1]
+    ready = [sum(steps[:y]) for y in range(most + 1)]
+    behind = [min(ready[y] + cost_of(slot, y) + b * max(0, z - y) for y in numbers_of(slot)) for z in range(most + 1)]
+    late = tuple(behind[z + 1] - behind[z] for z in range(most))
+    return cost_of(slot, x) + b * max(0, x - on), behind[0], (x, late)
+
+
+def plain_menu_places(menu, b):
+    """All places of a menu, come to or not, ascending."""
+    return [(on, steps) for on in range(menu[0][1] + 1) for steps in rising(menu[0][1], b)]
+
+
+def random_menu_slot(source, most, greatest):
+    """A slot with a told most; mostly it needs nothing, and some costs are often 0."""
+    need = source.choice((0, 0, source.randrange(most + 1)))
+    slopes = sorted(source.randrange(-greatest, greatest + 1) for _ in range(most - need))
+    lowest = min(sum(slopes[:k]) for k in range(len(slopes) + 1))
+    return (need, most, max(0, -lowest) + source.choice((0, 0, source.randrange(greatest + 1))), tuple(slopes))
+
+
+def random_menu(source, most, many, greatest):
+    """A menu of so many slots."""
+    found = []
+    while len(found) < many:
+        slot = random_menu_slot(source, most, greatest)
+        if slot not in found:
+            found.append(slot)
+    return tuple(found)
+
+
+def plain_menu(most):
+    """The menu of the plain slots with the needs 0 to most and the price 1."""
+    return tuple((need, most, need, (1,) * (most - need)) for need in range(most + 1))
+
+
+W = (EARNS, COSTS)
+
+
+# Fleets, days and halls.
+
+class PlainFleet:
+    """A fleet by the words of S9.1 and S9.2."""
+
+    def __init__(self, names):
+        self.tick = 0
+        self.states = {name: ("off", 0) for name in names}
+
+    def with_word(self, word):
+        return [name for name in self.states if self.states[name][0] == word]
+
+    def oldest(self, word):
+        """The oldest of those that are off or idle."""
+        best = None
+        for name in self.with_word(word):
+            if best is None or self.states[name][1] < self.states[best][1] or (self.states[name][1] == self.states[best][1] and name < best):
+                best = name
+        return best
+
+    def those(self, word):
+        left = PlainFleet([])
+        left.states = {name: self.states[name] for name in self.with_word(word)}
+        if word in ("busy", "fallen"):
+            return sorted(left.states)
+        found = []
+        while left.states:
+            found.append(left.oldest(word))
+            del left.states[found[-1]]
+        return found
+
+    def many_on(self):
+        return len(self.with_word("idle")) + len(self.with_word("busy"))
+
+    def fall(self, name):
+        word, told = self.states[name]
+        if word == "fallen":
+            return BadAct
+        self.states[name] = ("fallen", self.tick)
+        return told if word == "busy" else None
+
+    def mend(self, name):
+        if self.states[name][0] != "fallen":
+            return BadAct
+        self.states[name] = ("off", self.tick)
+
+    def free(self, name):
+        if self.states[name][0] != "busy":
+            return BadAct
+        self.states[name] = ("idle", self.tick)
+
+    def set_to(self, x):
+        started, stopped = [], []
+        while self.many_on() < x and self.with_word("off"):
+            started.append(self.oldest("off"))
+            self.states[started[-1]] = ("idle", self.tick)
+        while self.many_on() > x and self.with_word("idle"):
+            stopped.append(self.oldest("idle"))
+            self.states[stopped[-1]] = ("off", self.tick)
+        return (started, stopped)
+
+    def take(self, request):
+        best = None
+        for name in self.with_word("idle"):
+            if best is None or self.states[name][1] > self.states[best][1] or (self.states[name][1] == self.states[best][1] and name < best):
+                best = name
+        if best is not None:
+            self.states[best] = ("busy", request)
+        return best
+
+    def go_on(self):
+        self.tick += 1
+        return self.tick
+
+
+class PlainHall:
+    """A hall by the words of S9.5 to S9.7; it keeps each request as a list of its name, its rest and its machine."""
+
+    def __init__(self, names, b, w, day, runner):
+        self.fleet, self.b, self.w, self.day, self.runner = PlainFleet(names), b, w, day, runner
+        self.live, self.waits = {}, []
+        self.served, self.needs, self.row, self.unmet, self.books, self.seen, self.told = [], [], [], [], [], [], []
+
+    def running(self):
+        return {self.fleet.states[name][1]: name for name in self.fleet.those("busy")}
+
+    def needs_seen(self, s):
+        found = []
+        for u in range(s, min(s + self.w, len(self.day) - 1) + 1):
+            many = sum(1 for rest in self.live.values() if rest > u - s)
+            many += sum(1 for c in range(s + 1, u + 1) for _, length in self.day[c][2] if length > u - c)
+            found.append(many)
+        return tuple(found)
+
+    def step(self):
+        s = self.fleet.tick
+        falls, mends, requests = self.day[s]
+        for name in self.fleet.those("busy"):
+            request = self.fleet.states[name][1]
+            if self.live[request] == 0:
+                self.fleet.free(name)
+                del self.live[request]
+                self.served.append(request)
+        fallen = [self.fleet.fall(name) for name in falls if self.fleet.states[name][0] != "fallen"]
+        self.waits = [request for request in fallen if request is not None] + self.waits
+        for name in mends:
+            if self.fleet.states[name][0] == "fallen":
+                self.fleet.mend(name)
+        for request, length in requests:
+            self.live[request] = length
+            self.waits.append(request)
+        self.seen.append(self.needs_seen(s))
+        x = self.runner.look(self.seen[-1])
+        x = x if type(x) is int and x >= 0 else 0
+        self.told.append(x)
+        started = self.fleet.set_to(x)[0]
+        while self.waits and self.fleet.with_word("idle"):
+            self.fleet.take(self.waits.pop(0))
+        if self.waits:
+            self.unmet.append((s, len(self.waits)))
+        self.needs.append(len(self.live))
+        self.row.append(self.fleet.many_on())
+        self.books += [(s, "start", name, None, self.b) for name in started]
+        for name in sorted(self.fleet.states):
+            word, request = self.fleet.states[name]
+            if word in ("busy", "idle"):
+                self.books.append((s, "work" if word == "busy" else "idle", name, request if word == "busy" else None, 1))
+        for request in self.running():
+            self.live[request] -= 1
+        self.fleet.go_on()
+        return (self.needs[-1], x, self.row[-1])
+
+
+def random_day(source, names, ticks, greatest=6, falls=0.2, many=2):
+    """A day with so many ticks, of requests of lengths up to a greatest one."""
+    day, count = [], 0
+    for _ in range(ticks):
+        requests = []
+        for _ in range(source.choice((0, 0, source.randrange(many + 1)))):
+            requests.append((f"r{count}", source.randrange(1, greatest + 1)))
+            count += 1
+        some = lambda: tuple(source.sample(names, source.randrange(min(3, len(names)) + 1))) if source.random() < falls else ()
+        day.append((some(), some(), tuple(requests)))
+    return tuple(day)
+
+
+# Desks.
+
+def is_number(value):
+    return type(value) is int and value >= 0
+
+
+def plain_act_word(sheet, act):
+    """The word of S10.1 with which an act cannot be done with a sheet, or None."""
+    members = {"start": 2, "sight": 2, "put": 2, "drop": 2, "add": 3}
+    if type(act) is not tuple or not act or type(act[0]) is not str or act[0] not in members or len(act) != members[act[0]]:
+        return "form"
+    named = {part[1]: part for part in sheet[2]}
+    found = named.get(act[1]) if type(act[1]) is str else None
+    if act[0] == "start":
+        return None if is_number(act[1]) and act[1] >= 1 else "start"
+    if act[0] == "sight":
+        return None if is_number(act[1]) else "sight"
+    if act[0] == "put":
+        try:
+            check_sheet((1, 0, (act[1],)))
+        except BadTree:
+            return "part"
+        return "many" if len(named) == 30 and act[1][1] not in named else None
+    if found is None:
+        return "name"
+    if act[0] == "drop":
+        return None
+    if found[0] != "needs":
+        return "sort"
+    return None if is_number(act[2]) else "need"
+
+
+def plain_sheet(acts):
+    """The sheet behind acts that could all be done, one behind another."""
+    b, w, parts = 1, 0, {}
+    for act in acts:
+        if act[0] == "start":
+            b = act[1]
+        elif act[0] == "sight":
+            w = act[1]
+        elif act[0] == "put":
+            parts[act[1][1]] = act[1]
+        elif act[0] == "drop":
+            del parts[act[1]]
+        else:
+            word, name, needs = parts[act[1]]
+            parts[name] = (word, name, needs + (act[2],))
+    return (b, w, tuple(parts.values()))
+
+
+def random_part(source, name):
+    """A part of any sort with a name."""
+    sort = source.choice(("needs", "needs", "row", "prices", "slots", "rule", "rule"))
+    if sort == "slots":
+        return (sort, name, tuple(random_menu_slot(source, 1, 2) for _ in range(source.randrange(4))))
+    if sort == "rule":
+        return (sort, name, source.choice((fit_rule, random_rule))(source, source.randrange(1, 3), source.randrange(1, 3)))
+    return (sort, name, tuple(source.randrange(3) for _ in range(source.randrange(5))))
+
+
+def random_act(source):
+    """An act, most of which can be done."""
+    name = source.choice(("a", "b", "c", "d1", "e"))
+    word = source.choice(("start", "sight", "put", "put", "put", "drop", "add", "add", "wrong"))
+    if word == "start":
+        return (word, source.choice((1, 2, 2, 3, 0, True)))
+    if word == "sight":
+        return (word, source.choice((0, 0, 1, 2, -1, None)))
+    if word == "put":
+        return (word, random_part(source, name))
+    if word == "drop":
+        return (word, name)
+    if word == "add":
+        return (word, name, source.choice((0, 1, 2, 7, -1)))
+    return source.choice(((), ("put",), ["start", 2], ("put", 1), ("drop", [name]), ("add", name), ("undo",), None, ("put", ("needs", name, [1]))))
+
+
+NAMED = ("a", "b", "c", "d1", "e", "zz", "", None, ["a"], ("a",), {}, True, 0)
+ONE_NAME = ("least", "paid", "quotient", "runs", "factor", "unmet", "best", "inside", "menu")
+
+
+def answers_of(desk, names=NAMED[:7]):
+    """All that a desk tells of its sheet and answers to all questions about some names."""
+    found = [desk.sheet()]
+    asked = [(word, name) for word in ONE_NAME for name in names]
+    asked += [("price", one, other) for one in names for other in names]
+    asked += [("paper", one, other, third) for one in names[:4] for other in names[:4] for third in names[:4]]
+    for word, *told in asked:
+        try:
+            found.append((word, told, getattr(desk, word)(*told)))
+        except (BadAsk, TooGreat) as error:
+            found.append((word, told, type(error), vars(error)))
+    return found

@@ -38,11 +38,28 @@ FUNCTIONS = {
               "need_gain": ["b", "w", "play"], "slot_gain": ["b", "play"], "is_beaten": ["factor", "costs"]},
     "places": {"size": ["rule", "b"], "ready_steps": ["b", "most", "needs"], "least_by_steps": ["b", "needs"],
                "first_place": ["rule", "b"], "led": ["rule", "b", "place", "need"], "places": ["rule", "b"]},
+    "rules": {"rule_row": ["rule", "needs"], "rule_cost": ["rule", "b", "needs"], "unmet": ["rule"], "serving_paper": ["rule", "m"],
+              "judge_serving": ["rule", "m", "value"], "sight_rule": ["b", "most"]},
+    "factors": {"factor": ["rule", "b"], "paper_of_none": ["rule", "b"], "kept_paper": ["rule", "b", "p", "q"],
+                "met_paper": ["rule", "b", "p", "q"], "judge_kept": ["rule", "b", "p", "q", "value"],
+                "judge_met": ["rule", "b", "p", "q", "value"], "judge_none": ["rule", "b", "value"],
+                "excess": ["rule", "b", "p", "q"], "excess_paper": ["rule", "b", "p", "q"], "excess_row": ["rule", "b", "p", "q"]},
+    "menus": {"check_menu": ["value"], "menu_size": ["menu", "b"], "steps_behind": ["steps", "slot", "b"],
+              "first_place": ["menu", "b"], "turn": ["menu", "b", "place", "call", "x"]},
+    "bestrules": {"worst_factor": ["b"], "least_factor": ["menu", "b"], "rule_paper": ["menu", "b", "p", "q"],
+                  "player_paper": ["menu", "b", "p", "q"], "lower_paper": ["menu", "b"], "inner_paper": ["menu", "b"],
+                  "judge_rule_paper": ["menu", "b", "p", "q", "value"], "judge_player_paper": ["menu", "b", "p", "q", "value"],
+                  "judge_lower_paper": ["menu", "b", "p", "q", "value"]},
+    "playing": {"played": ["menu", "b", "paper", "runner", "ticks"]},
+    "requests": {"check_day": ["names", "value"], "day_needs": ["day"]},
+    "books": {"total": ["books"], "tick_costs": ["books", "ticks"], "machine_costs": ["books"], "bills": ["books"]},
 }
 
 CLASSES = {"errors": ["ScaleError", "BadText", "BadTree", "TooGreat", "BadAct", "BadAsk", "NotServed", "NothingDone",
                       "NameMissing", "UnknownName"],
-           "runners": ["SightRunner", "LazyRunner", "InnerRunner", "CallRunner", "RuleRunner", "RowRunner"]}
+           "runners": ["SightRunner", "LazyRunner", "InnerRunner", "CallRunner", "RuleRunner", "RowRunner"],
+           "playing": ["PaperRunner", "PaperPlayer"], "machines": ["Fleet"], "hall": ["Hall"], "desk": ["Desk"],
+           "console": ["Console"]}
 
 # The classes that have methods: what they are made with, and their methods.
 METHODS = {
@@ -52,6 +69,20 @@ METHODS = {
     ("runners", "CallRunner"): (["call"], {"look": ["seen"]}),
     ("runners", "RuleRunner"): (["rule"], {"look": ["seen"]}),
     ("runners", "RowRunner"): (["row"], {"look": ["seen"]}),
+    ("playing", "PaperRunner"): (["menu", "b", "paper"], {"look": ["seen"], "here": []}),
+    ("playing", "PaperPlayer"): (["menu", "b", "paper"], {"next_call": [], "answer": ["x"], "here": []}),
+    ("machines", "Fleet"): (["names"], {
+        "tick": [], "names": [], "state": ["name"], "those": ["word"], "many_on": [], "fall": ["name"], "mend": ["name"],
+        "free": ["name"], "set_to": ["x"], "take": ["request"], "go_on": []}),
+    ("hall", "Hall"): (["names", "b", "w", "day", "runner"], {
+        "tick": [], "is_over": [], "step": [], "states": [], "waiting": [], "served": [], "needs": [], "row": [],
+        "unmet": [], "books": []}),
+    ("desk", "Desk"): ([], {
+        "sheet": [], "act_word": ["act"], "do": ["act"], "undo": [], "redo": [], "acts": [], "least": ["name"],
+        "paid": ["name"], "quotient": ["name"], "runs": ["name"], "factor": ["name"], "unmet": ["name"],
+        "price": ["name", "needs"], "best": ["name"], "inside": ["name"], "menu": ["name"],
+        "paper": ["row", "prices", "slots"], "work": [], "mark": ["name"], "since": ["name"], "marks": [], "twin": []}),
+    ("console", "Console"): (["desk"], {"answer": ["line"]}),
 }
 
 V = ((1, 2, 1, (1,)), (0, 2, 0, (1, 1)), (0, 2, 0, (1, 1)), (1, 2, 1, (1,)))
@@ -64,6 +95,17 @@ NEED_PAPER = (((1, 2, 0, 2), 2), ((4, 1, 1, 2), 1))
 BUDGET_PAPER = (2, (1, 1, 1, 1), (2, 0, 1, 2))
 NEED_PLAY = ((1, 0, 0, 1, 0, 0), (1, 0, 0, 1, 0, 0))
 SLOT_PLAY = (((0, 1, 1, (-1,)), (0, 1, 0, (1,))), (1, 0))
+
+
+K = (1, (((0, 0), (1, 1)), ((1, 0), (1, 1))))
+STAYS = (1, (((0, 0), (1, 1)), ((1, 1), (1, 1))))
+UNFIT = (1, (((0, 0), (0, 0)),))
+W = ((0, 1, 1, (-1,)), (0, 1, 0, (1,)))
+KEPT = (((0, 0, (2,)), 0), ((0, 1, (1,)), 0), ((1, 1, (0,)), -3))
+RULE_PAPER = (((0, (1,)), (1, 0), -1), ((0, (2,)), (0, 0), 0), ((1, (0,)), (1, 1), -1), ((1, (1,)), (1, 0), 0))
+PLAYER_PAPER = (6, (((0, (0,)), 0, -12), ((0, (1,)), 0, -6), ((0, (2,)), 0, 0), ((1, (0,)), 1, -1), ((1, (1,)), 1, 4), ((1, (2,)), 1, 9)))
+DAY = ((("m",), ("n",), (("a", 2), ("b", 1))), ((), (), (("c", 3),)), ((), (), ()))
+BOOKS = [(0, "start", "m", None, 3), (0, "work", "m", "a", 1), (2, "idle", "m", None, 1)]
 
 
 class Fresh:
@@ -120,6 +162,26 @@ CALLS = [
     ("places", "size", RULE, 2), ("places", "ready_steps", 2, 1, [1, 0]), ("places", "least_by_steps", 2, [1, 0]),
     ("places", "first_place", RULE, 2), ("places", "first_place", RULE, 10 ** 5), ("places", "led", RULE, 2, (0, 0, (2,)), 1),
     ("places", "led", RULE, 10 ** 5, (0, 0, (2,)), 1), ("places", "places", RULE, 2), ("places", "places", RULE, 10 ** 5),
+    ("rules", "rule_row", K, [1, 0, 0, 1]), ("rules", "rule_cost", K, 2, [1, 0, 0, 1]), ("rules", "unmet", K), ("rules", "unmet", UNFIT),
+    ("rules", "serving_paper", K, None), ("rules", "serving_paper", UNFIT, 1), ("rules", "serving_paper", UNFIT, 2),
+    ("rules", "judge_serving", K, None, (0, 1)), ("rules", "judge_serving", K, 3, MIXED), ("rules", "judge_serving", K, 3, (0, None)),
+    ("rules", "sight_rule", 3, 2),
+    ("factors", "factor", K, 2), ("factors", "factor", STAYS, 2), ("factors", "factor", K, 10 ** 5), ("factors", "paper_of_none", STAYS, 2),
+    ("factors", "paper_of_none", K, 2), ("factors", "kept_paper", K, 2, 4, 3), ("factors", "kept_paper", K, 2, 1, 1),
+    ("factors", "met_paper", K, 2, 8, 6), ("factors", "met_paper", K, 2, 2, 1), ("factors", "judge_kept", K, 2, 4, 3, KEPT),
+    ("factors", "judge_kept", K, 2, 4, 3, MIXED), ("factors", "judge_kept", K, 10 ** 5, 4, 3, MIXED), ("factors", "judge_met", K, 2, 4, 3, ((), (1, 0, 0))),
+    ("factors", "judge_met", K, 2, 4, 3, [[], [1]]), ("factors", "judge_none", STAYS, 2, ((1, 0, 0), (0,))), ("factors", "judge_none", K, 2, MIXED),
+    ("factors", "excess", K, 2, 4, 3), ("factors", "excess", K, 2, 1, 1), ("factors", "excess_paper", K, 2, 3, 2), ("factors", "excess_row", K, 2, 3, 2),
+    ("menus", "check_menu", W), ("menus", "check_menu", MIXED), ("menus", "check_menu", W + W), ("menus", "menu_size", W, 3),
+    ("menus", "steps_behind", (3,), W[0], 3), ("menus", "first_place", W, 3), ("menus", "turn", W, 3, (0, (3,)), 1, 1),
+    ("bestrules", "worst_factor", 4), ("bestrules", "least_factor", W, 2), ("bestrules", "least_factor", W, 150), ("bestrules", "rule_paper", W, 2, 2, 1),
+    ("bestrules", "rule_paper", W, 2, 3, 2), ("bestrules", "player_paper", W, 2, 3, 2), ("bestrules", "player_paper", W, 2, 2, 1), ("bestrules", "lower_paper", W, 2),
+    ("bestrules", "inner_paper", W, 2), ("bestrules", "judge_rule_paper", W, 2, 2, 1, RULE_PAPER), ("bestrules", "judge_rule_paper", W, 2, 2, 1, MIXED),
+    ("bestrules", "judge_player_paper", W, 2, 3, 2, PLAYER_PAPER), ("bestrules", "judge_player_paper", W, 2, 3, 2, MIXED),
+    ("bestrules", "judge_lower_paper", W, 2, 2, 1, PLAYER_PAPER), ("bestrules", "judge_lower_paper", W, 150, 2, 1, MIXED),
+    ("playing", "played", W, 2, PLAYER_PAPER, Fresh(), 5),
+    ("requests", "check_day", ["m", "n"], DAY), ("requests", "check_day", ["m"], DAY), ("requests", "check_day", ["m"], MIXED), ("requests", "day_needs", DAY),
+    ("books", "total", BOOKS), ("books", "tick_costs", BOOKS, 2), ("books", "machine_costs", BOOKS), ("books", "bills", BOOKS),
 ]
 
 
@@ -142,6 +204,9 @@ def parts_of(value):
     if isinstance(value, (list, tuple)):
         for member in value:
             yield from parts_of(member)
+    if isinstance(value, dict):
+        for key, member in value.items():
+            yield from parts_of((key, member))
 
 
 class Names(unittest.TestCase):
@@ -192,16 +257,16 @@ class Calls(unittest.TestCase):
     def test_what_is_returned_is_plain(self):
         for call in CALLS:
             for part in parts_of(outcome(call)[1]) if outcome(call)[0] == "returned" else []:
-                self.assertIn(type(part), (int, str, bool, list, tuple, type(None)), call)
+                self.assertIn(type(part), (int, str, bool, list, tuple, dict, type(None)), call)
                 if type(part) is bool:
                     self.assertIn(call[1], ("is_name", "is_integer", "is_number", "serves", "is_beaten"))
 
     def test_what_is_returned_as_a_list_is_new(self):
         for call in CALLS:
             one, other = outcome(call), outcome(call)
-            if isinstance(one[1], list):
+            if isinstance(one[1], (list, dict)):
                 self.assertIsNot(one[1], other[1], call)
-                one[1].append("more")
+                one[1].clear()
                 self.assertEqual(outcome(call), other, call)
 
 

@@ -2,6 +2,7 @@
 
 import ast
 import builtins
+import functools
 import pathlib
 import re
 import unittest
@@ -15,6 +16,10 @@ BUILTINS = set("""len range enumerate zip min max sum abs sorted reversed int st
 METHODS = set("""append clear copy count endswith extend find get index insert isalnum isalpha isdigit islower isspace
     isupper items join keys ljust lower lstrip partition pop remove replace reverse rfind rjust rpartition rsplit rstrip
     setdefault split splitlines startswith strip update upper values zfill bit_length""".split())
+
+# What the library lends, by the modules from which it is imported.
+LIBRARY = {"math": {"gcd", "lcm", "isqrt", "comb", "perm", "factorial"},
+           "heapq": {"heappush", "heappop", "heapify", "heapreplace", "heappushpop"}}
 
 STATEMENTS = (ast.Assign, ast.AugAssign, ast.If, ast.While, ast.For, ast.Return, ast.Break, ast.Continue, ast.Pass,
               ast.Raise, ast.Assert, ast.Delete, ast.Try, ast.Expr, ast.FunctionDef, ast.ClassDef, ast.ImportFrom)
@@ -35,6 +40,7 @@ def files():
     return sorted(FOLDER.glob("*.py"))
 
 
+@functools.cache
 def trees():
     return {path.stem: ast.parse(path.read_text(), path.name) for path in files()}
 
@@ -62,9 +68,24 @@ def imports_of(tree):
     return [statement for statement in tree.body if isinstance(statement, ast.ImportFrom)]
 
 
+def own_imports_of(tree):
+    return [statement for statement in imports_of(tree) if statement.module not in LIBRARY]
+
+
+def classes():
+    return [node for tree in trees().values() for node in ast.walk(tree) if isinstance(node, ast.ClassDef)]
+
+
+def methods_of(owner):
+    return {node.name for node in owner.body if isinstance(node, ast.FunctionDef)}
+
+
 def own_methods():
-    return {node.name for tree in trees().values() for owner in ast.walk(tree) if isinstance(owner, ast.ClassDef)
-            for node in owner.body if isinstance(node, ast.FunctionDef)}
+    return {name for owner in classes() for name in methods_of(owner)}
+
+
+def stored_attributes(tree):
+    return {node.attr for node in ast.walk(tree) if isinstance(node, ast.Attribute) and isinstance(node.ctx, ast.Store)}
 
 
 class Files(unittest.TestCase):
@@ -101,6 +122,10 @@ class Modules(unittest.TestCase):
         for name, tree in trees().items():
             for statement in imports_of(tree):
                 self.assertEqual(statement.level, 0)
+                if statement.module in LIBRARY:
+                    self.assertLessEqual({alias.name for alias in statement.names}, LIBRARY[statement.module])
+                    self.assertTrue(all(alias.asname is None for alias in statement.names))
+            for statement in own_imports_of(tree):
                 folder, file = statement.module.split(".")
                 self.assertEqual(folder, "wakedenough")
                 defined = [node.name for node in trees()[file].body if isinstance(node, (ast.FunctionDef, ast.ClassDef))]
@@ -110,7 +135,7 @@ class Modules(unittest.TestCase):
                     self.assertIn(alias.name, defined, (name, alias.name))
 
     def test_no_two_files_import_from_each_other(self):
-        needed = {name: {statement.module.split(".")[1] for statement in imports_of(tree)} for name, tree in trees().items()}
+        needed = {name: {statement.module.split(".")[1] for statement in own_imports_of(tree)} for name, tree in trees().items()}
         while needed:
             free = [name for name, files_needed in needed.items() if not files_needed & set(needed)]
             self.assertTrue(free, needed)
@@ -122,6 +147,14 @@ class Modules(unittest.TestCase):
             for statement in imports_of(tree):
                 for alias in statement.names:
                     self.assertIn(alias.name, used, name)
+
+    def test_what_the_library_lends_is_only_called(self):
+        for name, tree in trees().items():
+            lent = {alias.name for statement in imports_of(tree) if statement.module in LIBRARY for alias in statement.names}
+            called = [node.func for node in ast.walk(tree) if isinstance(node, ast.Call) and not node.keywords]
+            for node in ast.walk(tree):
+                if isinstance(node, ast.Name) and node.id in lent:
+                    self.assertIn(node, called, name)
 
     def test_each_name_is_bound_once(self):
         for name, tree in trees().items():
@@ -155,7 +188,8 @@ class Code(unittest.TestCase):
                 if isinstance(node, ast.Constant) and isinstance(node.value, str):
                     self.assertNotIn(chr(37), node.value)
                 if isinstance(node, ast.ExceptHandler):
-                    self.assertIsInstance(node.type, ast.Name)
+                    caught = node.type.elts if isinstance(node.type, ast.Tuple) else [node.type]
+                    self.assertTrue(all(isinstance(error, ast.Name) and error.id not in vars(builtins) for error in caught), name)
                 if isinstance(node, ast.Compare) and any(isinstance(sign, (ast.Is, ast.IsNot)) for sign in node.ops):
                     self.assertIsInstance(node.comparators[0], ast.Constant)
 
@@ -172,10 +206,40 @@ class Code(unittest.TestCase):
                 if isinstance(node, ast.Call) and isinstance(node.func, ast.Attribute):
                     self.assertIn(node.func.attr, METHODS | own, name)
 
+    def test_stars_stand_behind_names(self):
+        for name, tree in trees().items():
+            for call in [node for node in ast.walk(tree) if isinstance(node, ast.Call)]:
+                self.assertTrue(all(keyword.arg is not None for keyword in call.keywords), name)
+                starred = [argument for argument in call.args if isinstance(argument, ast.Starred)]
+                for argument in call.args if starred else []:
+                    plain = argument.value if isinstance(argument, ast.Starred) else argument
+                    self.assertIsInstance(plain, (ast.Name, ast.Constant), name)
+
+    def test_no_kept_range_is_read_in_a_lambda(self):
+        kept = ("range", "zip", "enumerate", "reversed", "map", "iter")
+        for name, tree in trees().items():
+            for node in ast.walk(tree):
+                if isinstance(node, ast.Assign) and isinstance(node.value, ast.Call) and isinstance(node.value.func, ast.Name):
+                    self.assertNotIn(node.value.func.id, kept, name)
+
+    def test_lambdas_of_one_line_are_unlike(self):
+        for name, tree in trees().items():
+            lines = [node.lineno for node in ast.walk(tree) if isinstance(node, ast.Lambda)]
+            self.assertEqual(len(lines), len(set(lines)), name)
+
+    def test_caught_errors_have_names_of_their_own(self):
+        for name, tree in trees().items():
+            for function in [node for node in ast.walk(tree) if isinstance(node, ast.FunctionDef)]:
+                caught = [node.name for node in ast.walk(function) if isinstance(node, ast.ExceptHandler) and node.name]
+                self.assertEqual(len(caught), len(set(caught)), name)
+                self.assertFalse(set(caught) & set(names_within(function)), name)
+
     def test_no_name_is_a_method_and_an_attribute(self):
-        attributes = {node.attr for tree in trees().values() for node in ast.walk(tree)
-                      if isinstance(node, ast.Attribute) and isinstance(node.ctx, ast.Store)}
-        self.assertFalse(attributes & (own_methods() - METHODS))
+        attributes = {attribute for tree in trees().values() for attribute in stored_attributes(tree)}
+        for owner in classes():
+            self.assertFalse(stored_attributes(owner) & methods_of(owner), owner.name)
+        # The interface has a tick that an error keeps, and one that fleets and halls tell.
+        self.assertEqual(attributes & (own_methods() - METHODS), {"tick"})
         for name, tree in trees().items():
             called = [node.func for node in ast.walk(tree) if isinstance(node, ast.Call)]
             for node in ast.walk(tree):

@@ -6,17 +6,12 @@ import time
 import unittest
 
 import helper
+from helper import K, random_rule, rising, rule_fleet
 from wakedenough.errors import TooGreat
 from wakedenough.layers import least_by_layers
 from wakedenough.places import first_place, least_by_steps, led, places, ready_steps, size
 
-K = (1, (((0, 0), (1, 1)), ((1, 0), (1, 1))))
 UNFIT = (2, (((0, 1), (0, 0), (1, 1)), ((2, 0), (1, 1), (0, 1))))
-
-
-def random_rule(source, most, states):
-    return (most, tuple(tuple((source.randrange(most + 1), source.randrange(states)) for _ in range(most + 1))
-                        for _ in range(states)))
 
 
 def plain_steps(b, most, needs):
@@ -27,20 +22,6 @@ def plain_steps(b, most, needs):
                  for row in itertools.product(*[range(need, most + 1) for need in needs])]
         ready.append(min(costs))
     return tuple(late - early for early, late in zip(ready, ready[1:])), ready[0]
-
-
-def rule_fleet(rule, needs):
-    """The fleet row of a rule."""
-    state, row = 0, []
-    for need in needs:
-        x, state = rule[1][state][need]
-        row.append(x)
-    return row
-
-
-def rising(most, b):
-    """All rows of so many numbers from 0 to b that never fall."""
-    return list(itertools.combinations_with_replacement(range(b + 1), most))
 
 
 class Sizes(unittest.TestCase):

@@ -1,6 +1,9 @@
 """Places of rules: finitely many, through which each need row leads."""
 
+from math import comb
+
 from wakedenough.errors import TooGreat
+from wakedenough.ways import Ways
 
 GREATEST_SIZE = 20000
 
@@ -8,10 +11,8 @@ GREATEST_SIZE = 20000
 def size(rule, b):
     """Return the size of a rule for b."""
     most, states = rule
-    rows = 1
-    for k in range(1, most + 1):
-        rows = rows * (b + k) // k
-    return len(states) * (most + 1) * rows
+    # So many rows of most numbers from 0 to b never fall.
+    return len(states) * (most + 1) * comb(b + most, most)
 
 
 def require_not_too_great(rule, b):
@@ -68,16 +69,12 @@ def led(rule, b, place, need):
     return led_by(rule, b, place, need)
 
 
+def ways_of(rule, b):
+    """Return the ways through the places come to, each with as many steps as there are needs."""
+    first = first_place(rule, b)
+    return Ways(first, lambda place: [led_by(rule, b, place, need) for need in range(rule[0] + 1)])
+
+
 def places(rule, b):
     """Return the ascending list of the places come to."""
-    found = [first_place(rule, b)]
-    known = {found[0]: True}
-    at = 0
-    while at < len(found):
-        for need in range(rule[0] + 1):
-            place = led_by(rule, b, found[at], need)[0]
-            if place not in known:
-                known[place] = True
-                found.append(place)
-        at += 1
-    return sorted(found)
+    return sorted(ways_of(rule, b).found)

@@ -166,6 +166,11 @@ TAKES = {
 }
 
 
+def sees_part(reader):
+    """Return whether the lexeme ahead of a reader begins a part of a sheet."""
+    return any([reader.sees(word) for word in TAKES])
+
+
 def take_part(reader):
     """Return the part of a sheet ahead of a reader, its rows as lists of runs."""
     place = reader.here()
@@ -236,12 +241,17 @@ def read_runs(text):
     return spread(runs)
 
 
+def spread_parts(parts):
+    """Return the tuple of parts that were read, with their rows; raise TooGreat if these have too many numbers."""
+    require_not_too_great(sum([count_of(part[2]) for part in parts if tells_runs(part)]))
+    return tuple([spread_part(part) for part in parts])
+
+
 def read_sheet(text):
     """Return the sheet that a text tells."""
     reader = Reader(text)
     b, w, parts = take_sheet(reader)
     reader.finish()
-    require_not_too_great(sum([count_of(part[2]) for part in parts if tells_runs(part)]))
-    sheet = (b, w, tuple([spread_part(part) for part in parts]))
+    sheet = (b, w, spread_parts(parts))
     check_sheet(sheet)
     return sheet
