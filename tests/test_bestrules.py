@@ -333,8 +333,11 @@ class Judges(unittest.TestCase):
             for place in wrong:
                 rows = self.rows_of(sort, paper)
                 self.check(sort, p, q, self.with_rows(sort, paper, helper.changed_at(rows, 0, (place,) + rows[0][1:])), ("form",))
-        falls = (((0, (2, 2)), (0, 0, 0), 0), ((0, (2, 1)), (0, 0, 0), 0))
-        self.assertEqual(judge_rule_paper(helper.plain_menu(2), 2, 4, 3, falls), ("form",))
+        for steps, fault in [((2, 2), ("move", 0, 1)), ((0, 2), ("first",)), ((2, 1), ("form",)), ((1, 3), ("form",)), ((3, 3), ("form",)), ((2,), ("form",)),
+                             ((2, 2, 2), ("form",)), ((1, 0), ("form",)), ((-1, 2), ("form",))]:
+            value = (((0, steps), (0, 1, 2), 0),)
+            self.assertEqual(judge_rule_paper(helper.plain_menu(2), 2, 4, 3, value), fault, steps)
+            self.assertEqual(plain_fault(helper.plain_menu(2), 2, 4, 3, "rule", value), fault, steps)
 
     def test_form_of_moves_and_calls(self):
         rows = rule_example()

@@ -196,6 +196,8 @@ class WhatHolds(unittest.TestCase):
             self.assertLessEqual(max(needs, default=0), 40)
             hall = gone(names + [f"x{k}" for k in range(30)], 3, 1, day, CallRunner(lambda seen: seen[0] + k % 2))
             self.assertEqual([hall.needs(), hall.unmet()], [needs, []])
+            # No machine falls: so as many are started as the fleet row starts.
+            self.assertEqual(len([entry for entry in hall.books() if entry[1] == "start"]), helper.plain_starts(hall.row()))
 
     def test_the_sight_runner_keeps_its_factor(self):
         source = random.Random(275)

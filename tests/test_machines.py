@@ -95,7 +95,9 @@ class Drawn(unittest.TestCase):
             fleet = Fleet(NAMES)
             for k in range(30):
                 fleet.set_to(source.randrange(7))
-                fleet.take("r" + str(k))
+                idle = {name: fleet.state(name)[1] for name in fleet.those("idle")}
+                taken = fleet.take("r" + str(k))
+                self.assertTrue(all((idle[taken], name) >= (since, taken) for name, since in idle.items()))
                 if source.random() < 0.4 and fleet.those("busy"):
                     fleet.free(source.choice(fleet.those("busy")))
                 if source.random() < 0.3:

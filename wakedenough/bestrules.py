@@ -4,7 +4,7 @@ from wakedenough.errors import TooGreat
 from wakedenough.faults import fault_at, first_fault, is_pair
 from wakedenough.games import Game, least_kept, settled
 from wakedenough.inner import rest_of
-from wakedenough.menus import first_place, is_greater, numbers_for, steps_behind, turn
+from wakedenough.menus import first_place, is_greater, numbers_for, steps_behind, turn, turns_by_moves
 from wakedenough.runners import brought
 from wakedenough.ways import Ways, fraction, least_sums, mixed
 from wakedenough.words import is_integer, is_number
@@ -26,45 +26,21 @@ def worst_factor(b):
 def least_factor(menu, b):
     """Return the least factor of a menu, as a fraction."""
     require_not_too_great(menu, b)
-    return least_kept(Game(menu, b))[0]
-
-
-def places_by_moves(menu, b, moves_at):
-    """Return the ascending list of the places to which moves, told of each place, lead from the first one."""
-    lead = lambda place: turns_by_moves(menu, b, place, moves_at(place))
-    return sorted(Ways(first_place(menu, b), lead).found)
-
-
-def turns_by_moves(menu, b, place, moves):
-    """Return the list of the turns by some moves, as steps."""
-    turns = [turn(menu, b, place, k, x) for k, x in enumerate(moves)]
-    return [(late, price, growth) for price, growth, late in turns]
-
-
-def best_number(slot, answers, lefts):
-    """Return the number to answer a slot with behind which the least is left."""
-    rests = [(worth + lefts[end], k) for k, (end, worth) in enumerate(answers) if lefts[end] is not None]
-    return slot[0] + min(rests)[1]
-
-
-def best_moves(menu, choices, lefts):
-    """Return the moves behind which the least is left, for all calls at a place."""
-    return tuple([best_number(slot, answers, lefts) for slot, answers in zip(menu, choices)])
+    return least_kept(Game(menu, b), worst_factor(b))[0]
 
 
 def rule_paper(menu, b, p, q):
     """Return a rule paper for (p, q), or None if there is none."""
     require_not_too_great(menu, b)
     game = Game(menu, b)
-    numbers = game.ways.numbers
     worths = game.worths(p, q)
     lefts = settled(worths)[1]
     if lefts[0] is None:
         return None
     # From a place whose left is a number the best moves lead to such places alone.
-    moves_at = lambda place: best_moves(menu, worths[numbers[place]], lefts)
-    found = places_by_moves(menu, b, moves_at)
-    return tuple([(place, moves_at(place), -lefts[numbers[place]]) for place in found])
+    found = sorted(game.moved(worths, lefts).found)
+    numbers = [-lefts[game.ways.numbers[place]] for place in found]
+    return tuple([(place, game.moves_at(worths, lefts, place), number) for place, number in zip(found, numbers)])
 
 
 def player_paper(menu, b, p, q):
@@ -91,7 +67,7 @@ def lower_paper(menu, b):
     """Return a lower paper for the least factor, or None if this is 1."""
     require_not_too_great(menu, b)
     game = Game(menu, b)
-    (p, q), calls = least_kept(game)
+    (p, q), calls = least_kept(game, worst_factor(b))
     if calls is None:
         return None
     ways = game.called(calls)
@@ -120,8 +96,8 @@ def inner_number(b, place):
 def inner_paper(menu, b):
     """Return the inner paper of a menu."""
     require_not_too_great(menu, b)
-    found = places_by_moves(menu, b, lambda place: inner_moves(menu, b, place))
-    return tuple([(place, inner_moves(menu, b, place), inner_number(b, place)) for place in found])
+    ways = Ways(first_place(menu, b), lambda place: turns_by_moves(menu, b, place, inner_moves(menu, b, place)))
+    return tuple([(place, inner_moves(menu, b, place), inner_number(b, place)) for place in sorted(ways.found)])
 
 
 def is_place(menu, b, value):

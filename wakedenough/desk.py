@@ -15,7 +15,7 @@ class Desk:
 
     def __init__(self):
         self.now = (1, 0, ())
-        # The acts that are done, and those that can be done again, each behind the sheet ahead of it.
+        # The acts that are done, each behind the sheet ahead of it, and those that can be done again.
         self.done = []
         self.undone = []
         self.marked = {}

@@ -2,8 +2,8 @@
 
 from heapq import heappop, heappush
 
-from wakedenough.menus import first_place, numbers_for, turns_of
-from wakedenough.ways import Ways, best_ring, mixed
+from wakedenough.menus import first_place, numbers_for, turns_by_moves, turns_of
+from wakedenough.ways import Ways, best_ring, fraction, mixed
 
 
 def turns_at(menu, b, place):
@@ -40,6 +40,22 @@ class Game:
         numbers = self.ways.numbers
         first = self.ways.found[0]
         return Ways(first, lambda place: turns_of(self.slots, self.b, place, calls[numbers[place]]))
+
+    def moved(self, worths, lefts):
+        """Return the ways to which all calls lead from the first place, place by place, and the best moves."""
+        first = self.ways.found[0]
+        return Ways(first, lambda place: turns_by_moves(self.slots, self.b, place, self.moves_at(worths, lefts, place)))
+
+    def moves_at(self, worths, lefts, place):
+        """Return the moves at a place, whose left is a number, behind which the least is left."""
+        choices = worths[self.ways.numbers[place]]
+        return tuple([best_number(slot, answers, lefts) for slot, answers in zip(self.slots, choices)])
+
+
+def best_number(slot, answers, lefts):
+    """Return the number to answer a slot with behind which the least is left."""
+    rests = [(worth + lefts[end], k) for k, (end, worth) in enumerate(answers) if lefts[end] is not None]
+    return slot[0] + min(rests)[1]
 
 
 def least_by(answers, lefts):
@@ -118,13 +134,30 @@ def least_quotient(ways):
     return (q, p)
 
 
-def least_kept(game):
-    """Return the least factor that can be kept, and calls that show that no lesser one can be, None for 1."""
-    factor = (1, 1)
+def greatest_quotient(ways):
+    """Return the greatest quotient of the price and the growth of a ring of some ways, or 1 if it is below 1."""
+    p, q = best_ring(ways.ends, ways.prices, ways.growths)[0]
+    return (p, q) if p > q else (1, 1)
+
+
+def halfway(one, other):
+    """Return the fraction halfway between two ones."""
+    return fraction(one[0] * other[1] + other[0] * one[1], 2 * one[1] * other[1])
+
+
+def least_kept(game, high):
+    """Return the least factor that can be kept, and calls that show that no lesser one can be, None for 1.
+
+    One that can be kept, high, is told. Both bounds become quotients of rings, so they meet."""
+    low = (1, 1)
     shown = None
-    calls, lefts = settled(game.worths(1, 1))
-    while lefts[0] is None:
-        shown = calls
-        factor = least_quotient(game.called(calls))
-        calls, lefts = settled(game.worths(factor[0], factor[1]))
-    return (factor, shown)
+    while low != high:
+        p, q = halfway(low, high)
+        worths = game.worths(p, q)
+        calls, lefts = settled(worths)
+        if lefts[0] is None:
+            shown = calls
+            low = least_quotient(game.called(calls))
+        else:
+            high = greatest_quotient(game.moved(worths, lefts))
+    return (low, shown)

@@ -109,7 +109,8 @@ class Hall:
     def go_on(self):
         """Go on by a tick: what runs has run for a tick more."""
         for name in self.fleet.those("busy"):
-            self.rests[self.request_of(name)] -= 1
+            request = self.request_of(name)
+            self.rests[request] -= 1
         self.fleet.go_on()
 
     def states(self):

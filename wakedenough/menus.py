@@ -72,3 +72,9 @@ def turns_of(menu, b, place, call):
     slot = menu[call]
     growth, late = steps_behind(steps, slot, b)
     return [((x, late), price_of(slot, b, on, x), growth) for x in numbers_for(slot)]
+
+
+def turns_by_moves(menu, b, place, moves):
+    """Return the list of the turns by some moves, call by call, as steps."""
+    turns = [turn(menu, b, place, k, x) for k, x in enumerate(moves)]
+    return [(late, price, growth) for price, growth, late in turns]

@@ -104,6 +104,7 @@ class Climb:
                 back.append(place)
                 place = self.steps[place][0]
             if sums[place] is None:
+                # A ring comes about only by steps that made sums greater: so it has worths above 0 together.
                 return [self.steps[end] for end in back[back.index(place):][::-1]]
             for end in back[::-1]:
                 place, k = self.steps[end]
